@@ -1,0 +1,1 @@
+"""Wishstrike: wishes over names, and what can never be."""
