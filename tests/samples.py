@@ -41,6 +41,14 @@ NEVER = (
     (False,), ("",), ([],), ((), ()), ((((0,),),),), ([[[[None]]]],), (0, 0), ((0, 0),),
 )
 
+# A stand, a wish of it, one that isn't of it for its names, and what is no stand or wish at all.
+STAND = ((0, 1), (1, 2, 3))
+OURS = ("unlike", (0, 1))
+BEYOND = ("unlike", (0, 2))
+NO_STANDS = ((), ((),), ((1, 0),), [(0, 1)], ([0, 1],), ((True,),), ((10,),), ((0,),) * 5, None, True, "", 0)
+NO_WISHES = (None, True, 0, "unlike", (), ("unlike",), ["unlike", (0,)], ("unlike", ()), ("unlike", (True,)),
+             ("unlike", (0, 0)), ("sum", (0,), (1,), 1, 0), ("hand", (0, 1), (1,)))
+
 
 def places(thing):
     """The ways to each part of a thing, its own (the empty one) first."""

@@ -3,6 +3,7 @@ import unittest
 
 from wishstrike.things import fulfils
 
+from points import hand_by_7, many_by_7, row_by_7, sum_by_7, unlike_by_7
 from samples import TWELVE_DOORS
 
 # Each with all its fillings; the last has four names, the others some of them.
@@ -17,44 +18,6 @@ STANDS = (
 def names_of(stand):
     for size in range(1, len(stand) + 1):
         yield from itertools.permutations(range(len(stand)), size)
-
-
-def unlike_by_7(worths):
-    return not any(one == other for one, other in itertools.combinations(worths, 2))
-
-
-def many_by_7(worths, bounds):
-    for worth, low, high in bounds:
-        stands_at = len([each for each in worths if each == worth])
-        if stands_at < low or stands_at > high:
-            return False
-    return True
-
-
-def sum_by_7(worths, weights, low, high):
-    whole = 0
-    for at in range(len(worths)):
-        whole += worths[at] * weights[at]
-    return whole in range(low, high + 1)
-
-
-def way_leads(place, worths, doors, ends):
-    if not worths:
-        return place in ends
-    onward = [p for q, worth, p in doors if (q, worth) == (place, worths[0])]
-    return any(way_leads(p, worths[1:], doors, ends) for p in onward)
-
-
-def row_by_7(worths, doors, ends):
-    return way_leads(0, worths, doors, ends)
-
-
-def hand_by_7(worths, lengths):
-    works = list(zip(worths, lengths))
-    return all(
-        one[0] + one[1] <= other[0] or other[0] + other[1] <= one[0]
-        for one, other in itertools.combinations(works, 2)
-    )
 
 
 class Fulfils(unittest.TestCase):

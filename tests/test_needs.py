@@ -1,39 +1,14 @@
-import copy
 import itertools
 import unittest
 
-from wishstrike.errors import NoName, NoStand, NoWish, NoWorth, TooMany
+from wishstrike.errors import NoName, NoStand, NoWorth, TooMany
 from wishstrike.things import is_stand, need, need_all, settled
 
-from samples import NEVER, STANDS, WISHES, never_right
-
-STAND = ((0, 1), (1, 2, 3))
-OURS = ("unlike", (0, 1))
-BEYOND = ("unlike", (0, 2))
-NO_STANDS = ((), ((),), ((1, 0),), [(0, 1)], ([0, 1],), ((True,),), ((10,),), ((0,),) * 5, None, True, "", 0)
-NO_WISHES = (None, True, 0, "unlike", (), ("unlike",), ["unlike", (0,)], ("unlike", ()), ("unlike", (True,)),
-             ("unlike", (0, 0)), ("sum", (0,), (1,), 1, 0), ("hand", (0, 1), (1,)))
+from cases import RefusalCase
+from samples import BEYOND, NEVER, NO_STANDS, NO_WISHES, OURS, STAND, STANDS, WISHES, never_right
 
 
-class NeedCase(unittest.TestCase):
-    def refused(self, error, call, *things):
-        """By just this class, and with all that was handed in as it was."""
-        ahead = copy.deepcopy(things)
-        with self.subTest(things):
-            with self.assertRaises(error) as taken:
-                call(*things)
-            self.assertIs(type(taken.exception), error)
-            self.assertEqual(repr(things), repr(ahead))
-            return taken.exception
-
-    def no_wish(self, number, call, *things):
-        refusal = self.refused(NoWish, call, *things)
-        with self.subTest(things):
-            self.assertIs(type(refusal.number), int)
-            self.assertEqual(refusal.number, number)
-
-
-class Need(NeedCase):
+class Need(RefusalCase):
     def test_nothing_is_due(self):
         for stand in STANDS:
             for wish in WISHES:
@@ -68,7 +43,7 @@ class Need(NeedCase):
                 self.refused(NoStand, need, stand, wish)
 
 
-class NeedAll(NeedCase):
+class NeedAll(RefusalCase):
     def test_nothing_is_due(self):
         for many in range(4):
             wishes = [OURS, ("many", (1,), ()), ("sum", (1, 0), (1, 1), 0, 9)][:many]
@@ -110,7 +85,7 @@ class NeedAll(NeedCase):
             self.refused(NoStand, need_all, stand, [OURS, BEYOND, None, OURS])
 
 
-class SettledNames(NeedCase):
+class SettledNames(RefusalCase):
     def test_each_name_to_each_worth(self):
         for stand in STANDS:
             for name in range(len(stand)):

@@ -22,6 +22,13 @@ def are_unlike(things):
     return len(set(things)) == len(things)
 
 
+# The things are asked for ahead of the rising: what is none of them may not compare.
+def are_some_of(thing, things):
+    if not isinstance(thing, tuple) or len(thing) == 0:
+        return False
+    return all([part in things for part in thing]) and are_rising(thing)
+
+
 def is_span(low, high, least, most):
     return is_within(low, least, most) and is_within(high, least, most) and low <= high
 

@@ -31,6 +31,11 @@ def is_filling(stand, thing):
     return all([has_worth(worths, part) for worths, part in zip(stand, thing)])
 
 
+# A wish leaves the names that aren't its own free: any of their worths will do.
+def filling_with(stand, chosen):
+    return tuple([chosen.get(name, worths[0]) for name, worths in enumerate(stand)])
+
+
 def fulfils(wish, filling):
     return holds(wish, [filling[name] for name in wish[1]])
 
@@ -52,6 +57,12 @@ def need_wish(stand, wish, number):
 def need(stand, wish):
     need_stand(stand)
     need_wish(stand, wish, 0)
+
+
+def need_kind(stand, wish, word):
+    need(stand, wish)
+    if wish[0] != word:
+        raise NoWish(0)
 
 
 def need_all(stand, wishes):

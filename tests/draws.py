@@ -1,0 +1,70 @@
+"""Stands and wishes drawn from a row of numbers that is the same on every run."""
+
+
+class Draw:
+    def __init__(self, seed):
+        self.state = seed
+
+    def below(self, limit):
+        self.state = (self.state * 6364136223846793005 + 1442695040888963407) % 2 ** 64
+        return (self.state >> 33) % limit
+
+    def whole(self, low, high):
+        return low + self.below(high - low + 1)
+
+    def pick(self, things):
+        return things[self.below(len(things))]
+
+    def some(self, things, size):
+        """So many of the things, unlike, in any order."""
+        left = list(things)
+        return tuple(left.pop(self.below(len(left))) for _ in range(size))
+
+    def rising(self, things, size):
+        return tuple(sorted(self.some(things, size)))
+
+    def stand(self):
+        pool = self.pick((range(3), range(-1, 3), range(4), (-9, -1, 0, 1, 9), range(-9, 10)))
+        return tuple(self.rising(pool, self.whole(1, min(4, len(pool)))) for _ in range(self.pick((1, 2, 3, 3, 4, 4))))
+
+    def names(self, stand):
+        return self.some(range(len(stand)), self.pick((len(stand), self.whole(1, len(stand)))))
+
+    def worth(self, stand):
+        """Mostly one that a name has."""
+        if self.below(6) == 0:
+            return self.whole(-9, 9)
+        return self.pick(self.pick(stand))
+
+    def bound(self, worth):
+        low = self.pick((0, 0, 1, 1, 2, 3, 4))
+        return (worth, low, self.whole(low, self.pick((low, low, min(low + 1, 4), 4))))
+
+    def unlike(self, stand):
+        return ("unlike", self.names(stand))
+
+    def many(self, stand):
+        worths = {self.worth(stand) for _ in range(self.whole(0, 4))}
+        return ("many", self.names(stand), tuple(self.bound(worth) for worth in sorted(worths)))
+
+    def sum(self, stand):
+        names = self.names(stand)
+        weights = tuple(self.whole(-3, 3) for _ in names)
+        low = self.whole(-12, 12)
+        high = self.pick((low, low, low + 1, low + 4, 99))
+        return self.pick((("sum", names, weights, low, high), ("sum", names, weights, -high, -low)))
+
+    def row(self, stand):
+        doors = {(self.below(4), self.worth(stand), self.below(4)) for _ in range(self.whole(0, 12))}
+        if self.below(3) > 0:
+            doors = set(list(sorted(doors))[:10]) | {(0, self.worth(stand), self.below(4)) for _ in range(2)}
+        doors = self.some(sorted(doors), len(doors))
+        return ("row", self.names(stand), doors, self.rising(range(4), self.below(5)))
+
+
+def drawn(word, many):
+    """So many pairs of a stand and a wish of this kind."""
+    draw = Draw(sum(map(ord, word)))
+    for _ in range(many):
+        stand = draw.stand()
+        yield stand, getattr(draw, word)(stand)
