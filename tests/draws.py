@@ -1,5 +1,9 @@
 """Stands and wishes drawn from a row of numbers that is the same on every run."""
 
+from points import BY_7
+
+WORDS = ("unlike", "many", "sum", "row", "hand")
+
 
 class Draw:
     def __init__(self, seed):
@@ -60,6 +64,41 @@ class Draw:
             doors = set(list(sorted(doors))[:10]) | {(0, self.worth(stand), self.below(4)) for _ in range(2)}
         doors = self.some(sorted(doors), len(doors))
         return ("row", self.names(stand), doors, self.rising(range(4), self.below(5)))
+
+    def hand(self, stand):
+        names = self.names(stand)
+        return ("hand", names, tuple(self.pick((1, 1, 1, 2, 2, 3, 4)) for _ in names))
+
+    def wish(self, stand):
+        return getattr(self, self.pick(WORDS))(stand)
+
+    def filling(self, stand):
+        return tuple(self.pick(worths) for worths in stand)
+
+    def wish_of(self, stand, filling):
+        """One that the filling fulfils, mostly: so that rounds don't end all too often."""
+        for _ in range(12):
+            wish = self.wish(stand)
+            if BY_7[wish[0]]([filling[name] for name in wish[1]], *wish[2:]):
+                break
+        return wish
+
+    def wishes(self, stand, many):
+        """Some that one filling fulfils, some that each has one of its own for, some any."""
+        filling = self.filling(stand)
+        how = self.below(3)
+        return [
+            (self.wish(stand), self.wish_of(stand, self.filling(stand)), self.wish_of(stand, filling))[how]
+            for _ in range(many)
+        ]
+
+
+def drawn_with_wishes(seed, many):
+    """So many stands, each with a list of none to three wishes."""
+    draw = Draw(seed)
+    for _ in range(many):
+        stand = draw.stand()
+        yield stand, draw.wishes(stand, draw.pick((0, 1, 1, 2, 2, 2, 3, 3, 3)))
 
 
 def drawn(word, many):

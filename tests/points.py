@@ -106,3 +106,101 @@ def right_by_13(stand, wish, paper):
     doors, ends = wish[2:]
     return is_closed(stand, wish, paper, lambda at, q, worth: {door[2] for door in doors if door[:2] == (q, worth)}) \
         and not set(paper[-1]) & set(ends)
+
+
+def is_tree(thing):
+    if type(thing) is not tuple or not thing:
+        return False
+    if thing[0] == "late":
+        return len(thing) == 2 and are_whole(thing[1])
+    return thing[0] == "first" and len(thing) == 5 and are_whole(thing[1:3]) and is_tree(thing[3]) and is_tree(thing[4])
+
+
+def is_late(stand, wish, some):
+    lengths = dict(zip(*wish[1:]))
+    begin = min(stand[some[0]])
+    for one, other in zip(some, some[1:]):
+        not_below = {worth for worth in stand[other] if worth >= begin + lengths[one]}
+        if not not_below:
+            return True
+        begin = min(not_below)
+    return False
+
+
+def right_by_14(stand, wish, tree, told=frozenset()):
+    names = set(wish[1])
+    if tree[0] == "first":
+        i, j, one, other = tree[1:]
+        return names >= {i, j} and i != j and right_by_14(stand, wish, one, told | {(i, j)}) \
+            and right_by_14(stand, wish, other, told | {(j, i)})
+    some = tree[1]
+    return len(some) >= 2 and set(some) <= names and len(set(some)) == len(some) \
+        and set(zip(some, some[1:])) <= told and is_late(stand, wish, some)
+
+
+def are_tuples(thing):
+    return type(thing) is list and all(map(are_whole, thing))
+
+
+def is_word_with_some(thing):
+    return type(thing) is tuple and len(thing) == 2 and thing[0] in ("names", "worths") and are_whole(thing[1])
+
+
+# Of each kind what a paper of it is at all, and where it is right.
+PAPERS = {
+    "unlike": (are_whole, right_by_10),
+    "many": (is_word_with_some, right_by_11),
+    "sum": (are_tuples, right_by_12),
+    "row": (are_tuples, right_by_13),
+    "hand": (is_tree, right_by_14),
+}
+
+
+def is_right(stand, wish, paper):
+    is_form, right = PAPERS[wish[0]]
+    return is_form(paper) and right(stand, wish, paper)
+
+
+def settled_by_8(stand, name, worth):
+    return tuple((worth,) if at == name else worths for at, worths in enumerate(stand))
+
+
+def struck_by_8(stand, wish):
+    """All pairs of the stand's names, the wish's or not, that are struck, rising."""
+    given = {(name, worth) for filling in fulfilling(stand, wish) for name, worth in enumerate(filling)}
+    return sorted({(name, worth) for name, worths in enumerate(stand) for worth in worths} - given)
+
+
+def done_by_15(stand, wishes, strikes):
+    """The stand that is left and the name that ended it, or None; None where one of them is no strike."""
+    ended = None
+    for number, name, worth, paper in strikes:
+        if ended is not None or number not in range(len(wishes)) or name not in range(len(stand)):
+            return None
+        if worth not in stand[name] or not is_right(settled_by_8(stand, name, worth), wishes[number], paper):
+            return None
+        if stand[name] == (worth,):
+            ended = name
+        else:
+            stand = tuple(tuple(each for each in worths if (at, each) != (name, worth))
+                          for at, worths in enumerate(stand))
+    return stand, ended
+
+
+def end_by_16(stand, wishes):
+    """The stand that is left where no name's last worth is taken, else None."""
+    while True:
+        gone = {pair for wish in wishes for pair in struck_by_8(stand, wish)}
+        left = tuple(tuple(worth for worth in worths if (name, worth) not in gone)
+                     for name, worths in enumerate(stand))
+        if () in left:
+            return None
+        if left == stand:
+            return stand
+        stand = left
+
+
+def fulfilling_all(stand, wishes):
+    """The fillings that fulfil all, in Python's order."""
+    return sorted(filling for filling in itertools.product(*stand)
+                  if all(BY_7[wish[0]]([filling[name] for name in wish[1]], *wish[2:]) for wish in wishes))
