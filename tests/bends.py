@@ -61,3 +61,54 @@ def bent_papers(wish, paper):
     if wish[0] == "hand":
         return list(bent_trees(paper, numbers))
     return list(bent_lists(paper))
+
+
+def bent_strikes(wishes, strikes):
+    """A list of strikes with one out, twice, exchanged with its neighbour, or otherwise."""
+    yield from ([], strikes[::-1], strikes + strikes, strikes[1:])
+    for at, strike in enumerate(strikes):
+        ahead, behind = strikes[:at], strikes[at + 1:]
+        yield ahead + behind
+        yield ahead + [strike, strike] + behind
+        yield strikes + [strike]
+        if behind:
+            yield ahead + [behind[0], strike] + behind[1:]
+        number, name, worth, paper = strike
+        for other in (0, 1, 2) + FAR:
+            yield ahead + [(other, name, worth, paper)] + behind
+            yield ahead + [(number, other, worth, paper)] + behind
+            yield ahead + [(number, name, other, paper)] + behind
+            yield ahead + [(number, other, other, paper)] + behind
+        for other in OF_EACH_KIND + tuple(other[3] for other in strikes):
+            yield ahead + [(number, name, worth, other)] + behind
+        if 0 <= number < len(wishes):
+            for bent in bent_papers(wishes[number], paper)[::7]:
+                yield ahead + [(number, name, worth, bent)] + behind
+
+
+def bent_nones(wishes, tree):
+    """A tree of 18, each of its strikes, names and lists of trees bent, one at a time."""
+    for bent in list(bent_strikes(wishes, tree[1]))[::11]:
+        yield tree[:1] + (bent,) + tree[2:]
+    if tree[0] == "struck":
+        for name in (-1, 0, 1, 10 ** 30):
+            yield ("settle", tree[1], name, [])
+            yield ("settle", tree[1], name, [tree])
+            yield ("settle", tree[1][:-1], name, [("struck", tree[1][-1:])])
+        yield ("struck", tree[1][:-1])
+        return
+    word, strikes, name, trees = tree
+    yield ("struck", strikes)
+    for other in (0, 1, 2, 3) + FAR:
+        yield (word, strikes, other, trees)
+    yield from ((word, strikes, name, []), (word, strikes, name, trees[:-1]), (word, strikes, name, trees[1:]))
+    yield from ((word, strikes, name, trees[::-1]), (word, strikes, name, trees + trees[-1:]))
+    for at, below in enumerate(trees):
+        ahead, behind = trees[:at], trees[at + 1:]
+        yield (word, strikes, name, ahead + [below, below] + behind)
+        yield (word, strikes, name, ahead + trees[:1] + behind)
+        # One settle more changes nothing: the name has this worth alone there.
+        yield (word, strikes, name, ahead + [("settle", [], name, [below])] + behind)
+        yield (word, strikes, name, ahead + [("settle", [], name, [below, below])] + behind)
+        for bent in bent_nones(wishes, below):
+            yield (word, strikes, name, ahead + [bent] + behind)

@@ -1,6 +1,6 @@
 """Stands and wishes drawn from a row of numbers that is the same on every run."""
 
-from points import BY_7
+from points import BY_7, end_by_16, fulfilling_all
 
 WORDS = ("unlike", "many", "sum", "row", "hand")
 
@@ -72,6 +72,19 @@ class Draw:
     def wish(self, stand):
         return getattr(self, self.pick(WORDS))(stand)
 
+    def parity(self, stand):
+        """A row that asks for an even or an odd sum: alone it strikes nothing where two names are mixed."""
+        worths = sorted({worth for worths in stand for worth in worths})
+        doors = tuple((q, worth, (q + worth) % 2) for worth in worths for q in (0, 1))
+        return ("row", self.names(stand), doors, (self.below(2),))
+
+    def knotted(self):
+        """A stand and three wishes that seldom strike at once, and often can't be together."""
+        low = self.pick((0, -1, -9, 6))
+        many = self.pick((2, 3, 3, 4, 4))
+        stand = tuple(self.rising(range(low, low + 4), self.pick((2, 2, 2, 3, 4))) for _ in range(many))
+        return stand, [getattr(self, self.pick(("parity", "parity", "unlike", "sum")))(stand) for _ in range(3)]
+
     def filling(self, stand):
         return tuple(self.pick(worths) for worths in stand)
 
@@ -99,6 +112,16 @@ def drawn_with_wishes(seed, many):
     for _ in range(many):
         stand = draw.stand()
         yield stand, draw.wishes(stand, draw.pick((0, 1, 1, 2, 2, 2, 3, 3, 3)))
+
+
+def drawn_knotted(seed, many):
+    """So many stands with wishes by which rounds don't end, though no filling fulfils all."""
+    draw = Draw(seed)
+    while many:
+        stand, wishes = draw.knotted()
+        if not fulfilling_all(stand, wishes) and end_by_16(stand, wishes) is not None:
+            many -= 1
+            yield stand, wishes
 
 
 def drawn(word, many):

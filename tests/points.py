@@ -204,3 +204,58 @@ def fulfilling_all(stand, wishes):
     """The fillings that fulfil all, in Python's order."""
     return sorted(filling for filling in itertools.product(*stand)
                   if all(BY_7[wish[0]]([filling[name] for name in wish[1]], *wish[2:]) for wish in wishes))
+
+
+def none_by_18(stand, wishes, tree):
+    done = done_by_15(stand, wishes, tree[1])
+    if done is None:
+        return False
+    left, ended = done
+    if tree[0] == "struck":
+        return ended is not None
+    name, trees = tree[2:]
+    if ended is not None or name not in range(len(left)) or len(trees) != len(left[name]):
+        return False
+    return all(none_by_18(settled_by_8(left, name, worth), wishes, below) for worth, below in zip(left[name], trees))
+
+
+def kept_by_19(stand, wishes, order):
+    """The stand that a keeper tells and whether it ended, names settled by the pairs of the order."""
+    for name, worth in order:
+        stand = settled_by_8(stand, name, worth)
+    left = end_by_16(stand, wishes)
+    return (stand, True) if left is None else (left, False)
+
+
+def pairs_of(stand):
+    return {(name, worth) for name, worths in enumerate(stand) for worth in worths}
+
+
+def all_within(things, low, high):
+    return all(number in range(low, high + 1) for number in things)
+
+
+def stand_by_4(lists):
+    return 1 <= len(lists) <= 4 and all(
+        1 <= len(worths) <= 4 and is_rising(worths) and all_within(worths, -9, 9) for worths in lists
+    )
+
+
+def is_wish_by_5(word, names, *things):
+    """Of whole numbers, and of tuples of them, as many as the word asks for."""
+    if not 1 <= len(names) <= 4 or len(set(names)) != len(names) or not all_within(names, 0, 3):
+        return False
+    if word == "unlike":
+        return True
+    if word == "many":
+        bounds = things[0]
+        return len(bounds) <= 4 and is_rising([bound[0] for bound in bounds]) and len(bounds) == len(
+            [b for b in bounds if len(b) == 3 and -9 <= b[0] <= 9 and 0 <= b[1] <= b[2] <= 4])
+    if word == "sum":
+        weights, low, high = things
+        return len(weights) == len(names) and all_within(weights, -3, 3) and -99 <= low <= high <= 99
+    if word == "row":
+        doors, ends = things
+        return len(doors) <= 12 and len(set(doors)) == len(doors) and is_rising(ends) and all_within(ends, 0, 3) and all(
+            len(door) == 3 and all_within(door[::2], 0, 3) and all_within(door[1:2], -9, 9) for door in doors)
+    return len(things[0]) == len(names) and all_within(things[0], 1, 4)

@@ -6,11 +6,13 @@ import unittest
 from wishstrike.errors import NoStand, TooMany
 from wishstrike.fillings import first, how_many
 from wishstrike.hands import hand_can, hand_paper
+from wishstrike.keeper import Keeper
 from wishstrike.lines import row_can, row_paper
 from wishstrike.many import many_can, many_paper
 from wishstrike.papers import can, is_paper, struck
 from wishstrike.rounds import left_by, rounds
 from wishstrike.sums import sum_can, sum_paper
+from wishstrike.trees import is_none, solve
 from wishstrike.unlike import unlike_can, unlike_paper
 
 from cases import RefusalCase
@@ -59,6 +61,10 @@ def calls_of_lists():
     yield first, ()
     for strikes in ([], [(0, 0, 0, (0, 1))], [(-1, 9, 99, []), (3, 0, 0, ("late", ()))]):
         yield left_by, (strikes,)
+        yield is_none, (("struck", strikes),)
+        yield is_none, (("settle", strikes, 0, []),)
+    yield solve, ()
+    yield Keeper, ()
 
 
 class OfOneKind(RefusalCase):
@@ -144,7 +150,7 @@ class OfLists(RefusalCase):
         for call, more in calls_of_lists():
             for many in range(4):
                 for wishes in itertools.permutations(self.ALL, many):
-                    self.assertIn(type(call(STAND, list(wishes), *more)), (tuple, int, type(None)))
+                    self.assertIn(type(call(STAND, list(wishes), *more)), (tuple, int, type(None), bool, Keeper))
 
     def test_no_stand(self):
         for call, more in calls_of_lists():

@@ -5,7 +5,7 @@ import unittest
 from wishstrike.rounds import left_by, rounds
 from wishstrike.things import is_stand
 
-from bends import FAR, OF_EACH_KIND, bent_papers
+from bends import OF_EACH_KIND, bent_strikes
 from draws import drawn_with_wishes
 from points import done_by_15, end_by_16, fulfilling_all, struck_by_8
 
@@ -105,29 +105,6 @@ class Rounds(unittest.TestCase):
             self.assertEqual(rounds(stand, wishes), wanted)
 
 
-def bent_strikes(stand, wishes, strikes):
-    """A list of strikes with one out, twice, exchanged with its neighbour, or otherwise."""
-    yield from ([], strikes[::-1], strikes + strikes, strikes[1:])
-    for at, strike in enumerate(strikes):
-        ahead, behind = strikes[:at], strikes[at + 1:]
-        yield ahead + behind
-        yield ahead + [strike, strike] + behind
-        yield strikes + [strike]
-        if behind:
-            yield ahead + [behind[0], strike] + behind[1:]
-        number, name, worth, paper = strike
-        for other in (0, 1, 2) + FAR:
-            yield ahead + [(other, name, worth, paper)] + behind
-            yield ahead + [(number, other, worth, paper)] + behind
-            yield ahead + [(number, name, other, paper)] + behind
-            yield ahead + [(number, other, other, paper)] + behind
-        for other in OF_EACH_KIND + tuple(other[3] for other in strikes):
-            yield ahead + [(number, name, worth, other)] + behind
-        if 0 <= number < len(wishes):
-            for bent in bent_papers(wishes[number], paper)[::7]:
-                yield ahead + [(number, name, worth, bent)] + behind
-
-
 class LeftBy(unittest.TestCase):
     def held(self, stand, wishes, strikes):
         """What is told of the list, held against the point; the truth whether a stand is told."""
@@ -154,7 +131,7 @@ class LeftBy(unittest.TestCase):
         came_up = {True: 0, False: 0}
         for stand, wishes in drawn_with_wishes(6, 250):
             strikes = rounds(stand, wishes)[1]
-            for bent in list(bent_strikes(stand, wishes, strikes))[::3]:
+            for bent in list(bent_strikes(wishes, strikes))[::3]:
                 came_up[self.held(stand, wishes, bent)] += 1
         self.assertGreater(came_up[True], 500)
         self.assertGreater(came_up[False], 5000)

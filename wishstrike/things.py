@@ -73,10 +73,24 @@ def need_all(stand, wishes):
         raise TooMany("there are more than three wishes")
 
 
-def settled(stand, name, worth):
-    need_stand(stand)
+def need_name(stand, name):
     if not is_whole(name) or not 0 <= name < len(stand):
         raise NoName("the stand has no such name")
+
+
+def need_worth(stand, name, worth):
+    need_name(stand, name)
     if not has_worth(stand[name], worth):
         raise NoWorth("the name has no such worth")
+
+
+def settled(stand, name, worth):
+    need_stand(stand)
+    need_worth(stand, name, worth)
     return stand[:name] + ((worth,),) + stand[name + 1:]
+
+
+def all_settled(stand, pairs):
+    for name, worth in pairs:
+        stand = settled(stand, name, worth)
+    return stand
