@@ -3,6 +3,7 @@
 from wishstrike.errors import NoLine, NoText, NoWish
 from wishstrike.fillings import first, how_many
 from wishstrike.keeper import Keeper
+from wishstrike.kinds import is_number_of
 from wishstrike.papers import struck
 from wishstrike.texts import read_number, read_stand, read_wish, show_numbers, show_stand, show_tuples
 
@@ -76,6 +77,6 @@ class Desk:
 
     def tell_struck(self, number):
         wishes = self.kept.wishes()
-        if not 0 <= number < len(wishes):
+        if not is_number_of(number, wishes):
             raise NoWish(number)
         return show_tuples(struck(self.kept.stand(), wishes[number]))

@@ -10,6 +10,11 @@ def is_within(thing, low, high):
     return is_whole(thing) and low <= thing <= high
 
 
+# Below 0 Python would count from the end.
+def is_number_of(thing, things):
+    return is_within(thing, 0, len(things) - 1)
+
+
 def are_within(thing, low, high):
     return isinstance(thing, tuple) and all([is_within(part, low, high) for part in thing])
 

@@ -1,5 +1,6 @@
 """Strikes, one by one, and the rounds in which wishes together strike all they can."""
 
+from wishstrike.kinds import is_number_of
 from wishstrike.papers import can, is_paper
 from wishstrike.things import has_worth, need_all, settled
 
@@ -7,11 +8,6 @@ from wishstrike.things import has_worth, need_all, settled
 def without(stand, name, worth):
     left = tuple([other for other in stand[name] if other != worth])
     return stand[:name] + (left,) + stand[name + 1:]
-
-
-# Below 0 Python would count from the end.
-def is_number_of(number, things):
-    return 0 <= number < len(things)
 
 
 def is_strike(stand, wishes, strike):

@@ -1,7 +1,7 @@
 """Stands, wishes and fillings: what they are, and what is refused of them."""
 
 from wishstrike.errors import NoName, NoStand, NoWish, NoWorth, TooMany
-from wishstrike.kinds import are_names, are_rising, are_within, holds, is_of_its_kind, is_whole
+from wishstrike.kinds import are_names, are_rising, are_within, holds, is_number_of, is_of_its_kind, is_whole
 
 
 def are_worths(thing):
@@ -74,7 +74,7 @@ def need_all(stand, wishes):
 
 
 def need_name(stand, name):
-    if not is_whole(name) or not 0 <= name < len(stand):
+    if not is_number_of(name, stand):
         raise NoName("the stand has no such name")
 
 

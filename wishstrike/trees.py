@@ -1,12 +1,13 @@
 """The first filling that fulfils all wishes, or a tree of strikes by which none does."""
 
 from wishstrike.fillings import first
-from wishstrike.rounds import done, is_number_of, rounds
+from wishstrike.kinds import is_number_of
+from wishstrike.rounds import done, rounds
 from wishstrike.things import need_all, settled
 
 
-# Where rounds leave each name one worth, these fulfil each wish, or it would have struck
-# one: so where none fulfils all, there is such a name.
+# There is one where rounds don't end and yet none fulfils all: if each name were left
+# one worth, these would fulfil every wish, since none of them struck one.
 def name_of_several(stand):
     several = [name for name, worths in enumerate(stand) if len(worths) > 1]
     return several[0]
